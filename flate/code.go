@@ -1,6 +1,11 @@
 package flate
 
-const maxCodeBits = 15
+// How long a code may be, and how long a short one: a length of the short code is told in shortWidth bits.
+const (
+	maxCodeBits  = 15
+	maxShortBits = 1<<shortWidth - 1
+	shortWidth   = 3
+)
 
 // span is a row of symbols that follow one another and have codes of one length: these follow one another, too.
 type span struct {
@@ -75,6 +80,16 @@ func (c code) find(word, length int) (int, bool) {
 		}
 	}
 	return 0, false
+}
+
+// word is what find finds the symbol by; a symbol that has no code is never asked for.
+func (c code) word(symbol int) (word, length int) {
+	for _, s := range c.spans {
+		if symbol >= s.symbol && symbol < s.symbol+s.count {
+			return s.code + symbol - s.symbol, s.length
+		}
+	}
+	return 0, 0
 }
 
 // usesAllBits adds up which part of all words of maxCodeBits bits begin with a code.

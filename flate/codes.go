@@ -3,16 +3,24 @@ package flate
 import "slices"
 
 const (
-	endOfBlock    = 256
-	firstLength   = 257
-	mostSymbols   = 286
-	mostDistances = 30
+	endOfBlock  = 256
+	firstLength = 257
 )
 
-// The symbols of the short code from which on they are repetitions.
+// How many lengths a dynamic block tells, of each of its codes.
 const (
-	repeatLast = 16
-	repeatZero = 17
+	leastSymbols   = 257
+	mostSymbols    = 286
+	leastDistances = 1
+	mostDistances  = 30
+	leastShort     = 4
+)
+
+// The symbols of the short code that are repetitions.
+const (
+	repeatLast      = 16
+	repeatZeros     = 17
+	repeatManyZeros = 18
 )
 
 // shortOrder is the order in which the lengths of the short code stand (RFC 1951, 3.2.7).
@@ -73,7 +81,7 @@ func readCounts(in *reader) (counts, error) {
 	if err != nil {
 		return counts{}, err
 	}
-	n := counts{symbols: symbols + 257, distances: distances + 1, short: short + 4}
+	n := counts{symbols: symbols + leastSymbols, distances: distances + leastDistances, short: short + leastShort}
 	if n.symbols > mostSymbols || n.distances > mostDistances {
 		return counts{}, broken(errManyCodes)
 	}
@@ -83,7 +91,7 @@ func readCounts(in *reader) (counts, error) {
 func readShortCode(in *reader, count int) (code, error) {
 	lengths := make([]int, len(shortOrder))
 	for i := range count {
-		length, err := in.number(3)
+		length, err := in.number(shortWidth)
 		if err != nil {
 			return code{}, err
 		}
@@ -120,13 +128,7 @@ func readLengths(in *reader, short code, count int) ([]int, error) {
 }
 
 func readRepetition(in *reader, symbol int, lengths []int) ([]int, error) {
-	width, least := 7, 11
-	switch symbol {
-	case repeatLast:
-		width, least = 2, 3
-	case repeatZero:
-		width, least = 3, 3
-	}
+	width, least := repetition(symbol)
 	more, err := in.number(width)
 	if err != nil {
 		return nil, err
@@ -139,6 +141,17 @@ func readRepetition(in *reader, symbol int, lengths []int) ([]int, error) {
 		length = lengths[len(lengths)-1]
 	}
 	return slices.Repeat([]int{length}, least+more), nil
+}
+
+// repetition tells how many bits stand behind a repetition's symbol, and how often it repeats at least.
+func repetition(symbol int) (width, least int) {
+	switch symbol {
+	case repeatLast:
+		return 2, 3
+	case repeatZeros:
+		return 3, 3
+	}
+	return 7, 11
 }
 
 func makeCodes(symbols, distances []int) (codes, error) {

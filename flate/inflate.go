@@ -1,4 +1,4 @@
-// Package flate reads DEFLATE streams (RFC 1951).
+// Package flate reads and writes DEFLATE streams (RFC 1951).
 package flate
 
 // The kinds of blocks.

@@ -8,9 +8,13 @@ import (
 
 // The limits (DOC.md, Words).
 const (
+	maxText    = 600
 	maxArchive = 3000
 	maxOut     = 3000
 )
+
+// maxLevel is the level of packing that tries most (P6).
+const maxLevel = 2
 
 // Errno is what a call answers: OK or the reason for a refusal.
 type Errno int
@@ -66,7 +70,15 @@ func Inflate(data string, most int) (string, int, Errno) {
 }
 
 // Deflate packs (P6).
-func Deflate(data string, level int) (string, Errno) { return "", OK }
+func Deflate(data string, level int) (string, Errno) {
+	if len(data) > maxText {
+		return "", ErrLong
+	}
+	if level < 0 || level > maxLevel {
+		return "", ErrArg
+	}
+	return flate.Deflate(data, level), OK
+}
 
 // Take answers what a view shows (P7).
 func Take(data string, width int, from int, shape []int, strides []int, fortran bool) (string, Errno) {
