@@ -4,13 +4,10 @@ package pouch
 import (
 	"pouch/crc"
 	"pouch/flate"
-)
-
-// The limits (DOC.md, Words).
-const (
-	maxText    = 600
-	maxArchive = 3000
-	maxOut     = 3000
+	"pouch/limit"
+	"pouch/npy"
+	"pouch/tensor"
+	"pouch/view"
 )
 
 // maxLevel is the level of packing that tries most (P6).
@@ -56,10 +53,10 @@ func Crc(data string) int {
 
 // Inflate unpacks (P4, P5).
 func Inflate(data string, most int) (string, int, Errno) {
-	if len(data) > maxArchive {
+	if len(data) > limit.Archive {
 		return "", 0, ErrLong
 	}
-	if most < 0 || most > maxOut {
+	if most < 0 || most > limit.Out {
 		return "", 0, ErrArg
 	}
 	text, read, err := flate.Inflate(data, most)
@@ -71,7 +68,7 @@ func Inflate(data string, most int) (string, int, Errno) {
 
 // Deflate packs (P6).
 func Deflate(data string, level int) (string, Errno) {
-	if len(data) > maxText {
+	if len(data) > limit.Text {
 		return "", ErrLong
 	}
 	if level < 0 || level > maxLevel {
@@ -82,17 +79,39 @@ func Deflate(data string, level int) (string, Errno) {
 
 // Take answers what a view shows (P7).
 func Take(data string, width int, from int, shape []int, strides []int, fortran bool) (string, Errno) {
-	return "", OK
+	if len(data) > limit.Text {
+		return "", ErrLong
+	}
+	v := view.View{Width: width, From: from, Shape: shape, Strides: strides, Fortran: fortran}
+	items, err := v.Take(data)
+	return items, errnoOf(err)
 }
 
 // Turn turns each item's bytes round (P8).
-func Turn(data string, width int) (string, Errno) { return "", OK }
+func Turn(data string, width int) (string, Errno) {
+	if len(data) > limit.Text {
+		return "", ErrLong
+	}
+	if !view.IsWidth(width) || len(data)%width != 0 {
+		return "", ErrArg
+	}
+	return view.Turn(data, width), OK
+}
 
 // Npy writes a tensor's file (P9, P10).
-func Npy(t Tensor) (string, Errno) { return "", OK }
+func Npy(t Tensor) (string, Errno) {
+	file, err := npy.Write(tensor.Tensor(t))
+	return file, errnoOf(err)
+}
 
 // ReadNpy reads one (P11, P12).
-func ReadNpy(data string) (Tensor, Errno) { return Tensor{}, OK }
+func ReadNpy(data string) (Tensor, Errno) {
+	if len(data) > limit.Archive {
+		return Tensor{}, ErrLong
+	}
+	t, err := npy.Read(data)
+	return Tensor(t), errnoOf(err)
+}
 
 // Save writes an archive (P13).
 func Save(list []Member) (string, Errno, int) { return "", OK, 0 }
