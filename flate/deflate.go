@@ -1,5 +1,8 @@
 package flate
 
+// MaxLevel is the level of packing that tries most.
+const MaxLevel = 2
+
 // storedHead is how many bytes a stored block takes up beside its own, if it is the first one.
 const storedHead = 5
 
@@ -15,7 +18,7 @@ type packer struct {
 func Deflate(text string, level int) string {
 	p := &packer{text: text, room: len(text) + storedHead + 1}
 	switch level {
-	case 2:
+	case MaxLevel:
 		// Where few different bytes stand, short copies may need more bits than these bytes.
 		p.tryDynamic(noCopy)
 		p.tryDynamic(leastCopy)

@@ -8,4 +8,6 @@ const (
 	Rank    = 4    // numbers of a shape
 	Dim     = 9999 // each of them
 	Items   = 300  // bytes of a tensor
+	Members = 4    // of an archive
+	Name    = 12   // bytes of a member's name
 )

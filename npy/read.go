@@ -3,6 +3,7 @@ package npy
 import (
 	"strings"
 
+	"pouch/number"
 	"pouch/tensor"
 )
 
@@ -10,7 +11,6 @@ const (
 	versionBytes = 2
 	shortLength  = 2
 	longLength   = 4
-	bitsOfByte   = 8
 )
 
 // Read answers the tensor of a file, or a *FileError.
@@ -52,7 +52,7 @@ func split(data string) (head, items string, err error) {
 	if len(rest) < size {
 		return "", "", errShort
 	}
-	length := lowestFirst(rest[:size])
+	length := number.Of(rest[:size])
 	rest = rest[size:]
 	if length > uint64(len(rest)) {
 		return "", "", errShort
@@ -76,13 +76,4 @@ func lengthBytes(version byte) (int, error) {
 		return 0, errVersion
 	}
 	return size, nil
-}
-
-// lowestFirst reads a number; four bytes may stand for one that a small int does not hold.
-func lowestFirst(data string) uint64 {
-	var n uint64
-	for i := range len(data) {
-		n |= uint64(data[i]) << (bitsOfByte * i)
-	}
-	return n
 }

@@ -5,6 +5,7 @@ import (
 	"strconv"
 	"strings"
 
+	"pouch/number"
 	"pouch/tensor"
 )
 
@@ -26,7 +27,8 @@ func Write(t tensor.Tensor) (string, error) {
 	size += blanks
 	var out strings.Builder
 	out.WriteString(magic)
-	out.Write([]byte{1, 0, byte(size), byte(size >> 8)})
+	out.WriteString("\x01\x00")
+	out.WriteString(number.Bytes(shortLength, uint64(size)))
 	out.WriteString(head)
 	out.WriteString(strings.Repeat(" ", blanks))
 	out.WriteString("\n")

@@ -2,6 +2,9 @@
 package pouch
 
 import (
+	"iter"
+
+	"pouch/archive"
 	"pouch/crc"
 	"pouch/flate"
 	"pouch/limit"
@@ -9,9 +12,6 @@ import (
 	"pouch/tensor"
 	"pouch/view"
 )
-
-// maxLevel is the level of packing that tries most (P6).
-const maxLevel = 2
 
 // Errno is what a call answers: OK or the reason for a refusal.
 type Errno int
@@ -71,7 +71,7 @@ func Deflate(data string, level int) (string, Errno) {
 	if len(data) > limit.Text {
 		return "", ErrLong
 	}
-	if level < 0 || level > maxLevel {
+	if level < 0 || level > flate.MaxLevel {
 		return "", ErrArg
 	}
 	return flate.Deflate(data, level), OK
@@ -114,7 +114,38 @@ func ReadNpy(data string) (Tensor, Errno) {
 }
 
 // Save writes an archive (P13).
-func Save(list []Member) (string, Errno, int) { return "", OK, 0 }
+func Save(list []Member) (string, Errno, int) {
+	if len(list) > limit.Members {
+		return "", ErrLong, 0
+	}
+	data, err := archive.Save(toSave(list))
+	return data, errnoOf(err), placeOf(err)
+}
+
+func toSave(list []Member) iter.Seq[archive.Member] {
+	return func(yield func(archive.Member) bool) {
+		for _, m := range list {
+			if !yield(archive.Member{Name: m.Name, Packed: m.Packed, Tensor: tensor.Tensor(m.Tensor)}) {
+				return
+			}
+		}
+	}
+}
 
 // Load reads one (P14, P15).
-func Load(data string, most int) ([]Member, Errno, int) { return nil, OK, 0 }
+func Load(data string, most int) ([]Member, Errno, int) {
+	if len(data) > limit.Archive {
+		return nil, ErrLong, 0
+	}
+	if most < 0 || most > limit.Out {
+		return nil, ErrArg, 0
+	}
+	var list []Member
+	for m, err := range archive.Members(data, most) {
+		if err != nil {
+			return nil, errnoOf(err), placeOf(err)
+		}
+		list = append(list, Member{Name: m.Name, Packed: m.Packed, Tensor: Tensor(m.Tensor)})
+	}
+	return list, OK, 0
+}
